@@ -1,0 +1,1 @@
+"""Boundbook: from a manuscript to a bound copy."""

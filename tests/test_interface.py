@@ -1,0 +1,40 @@
+"""The interface: every name stands where the document lists it, with its arguments."""
+
+import importlib
+import inspect
+import unittest
+
+FUNCTIONS = {
+    "words": (
+        "wrap(words, width)", "line_count(words, width)", "longest(words)", "length_of(words)",
+        "narrowest(words, lines)",
+    ),
+    "tables": (
+        "check_table(table)", "head_count(table)", "cell_at(table, row, column)", "breakable_rows(table)",
+    ),
+    "constraints": ("least_positions(count, constraints)", "contradiction(count, constraints)"),
+}
+CLASSES = {"errors": ("BookError", "Refused", "BadManuscript")}
+
+
+class InterfaceTest(unittest.TestCase):
+    def test_functions(self):
+        for file, signatures in FUNCTIONS.items():
+            module = importlib.import_module("boundbook." + file)
+            for signature in signatures:
+                name = signature.partition("(")[0]
+                function = getattr(module, name)
+                self.assertEqual(function.__module__, module.__name__)
+                self.assertEqual(name + str(inspect.signature(function)), signature)
+
+    def test_classes(self):
+        for file, names in CLASSES.items():
+            module = importlib.import_module("boundbook." + file)
+            for name in names:
+                made = getattr(module, name)
+                self.assertTrue(inspect.isclass(made))
+                self.assertEqual(made.__module__, module.__name__)
+
+
+if __name__ == "__main__":
+    unittest.main()
