@@ -13,6 +13,14 @@ FUNCTIONS = {
         "check_table(table)", "head_count(table)", "cell_at(table, row, column)", "breakable_rows(table)",
     ),
     "constraints": ("least_positions(count, constraints)", "contradiction(count, constraints)"),
+    "columns": ("column_lines_for(table, heights)", "minimum_width(table)"),
+    "rows": ("row_lines_for(table, column_lines)", "violations(table, layout)"),
+    "sizes": ("sizes(table)", "lowest(table, max_width)", "narrowest_layout(table, max_height)"),
+    "pages": (
+        "paginate(table, row_lines, page_height)", "page_table(table, first, behind)",
+        "page_layout(table, layout, first, behind)",
+    ),
+    "fewest": ("fewest_pages(table, max_width, page_height)",),
 }
 CLASSES = {"errors": ("BookError", "Refused", "BadManuscript")}
 

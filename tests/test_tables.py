@@ -178,6 +178,8 @@ class CellsTest(unittest.TestCase):
         self.assertEqual(told(with_cells(1, 1, *cells)), "place is not covered once")
         cells = [(0, 0, 1, 2, ()), (0, 0, 1, 1, ())]
         self.assertEqual(told(with_cells(1, 2, *cells)), "place is not covered once")
+        cells = [(0, 0, 2, 1, ()), (0, 0, 1, 1, ())]
+        self.assertEqual(told(with_cells(2, 1, *cells)), "place is not covered once")
 
     def test_spans_below_1(self):
         for spans in ((0, 1), (1, 0), (-1, 1), (1, -1), (0, 0)):
