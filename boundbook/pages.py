@@ -13,10 +13,10 @@ def paginate(table, row_lines, page_height):
     """Return the list of the pages, each with as many body rows as possible, or None."""
     head = head_count(table)
     count = len(table[1])
-    ends = breakable_rows(table) + [count]
     if head == count:
-        pages = [(head, head)]
-        return pages if height_of_page(row_lines, head, head, head) <= page_height else None
+        fits = height_of_page(row_lines, head, head, head) <= page_height
+        return [(head, head)] if fits else None
+    ends = breakable_rows(table) + [count]
     pages = []
     first = head
     while first < count:
