@@ -25,9 +25,14 @@ def are_columns(columns):
     return 1 <= len(columns) <= MOST_COLUMNS and all([is_column(column) for column in columns])
 
 
+def is_row(row):
+    """Return whether the least height of a row is in its bounds."""
+    return 1 <= row[0] <= 6
+
+
 def are_rows(rows):
     """Return whether there are as many rows as allowed, all of them right."""
-    return 1 <= len(rows) <= MOST_ROWS and all([1 <= row[0] <= 6 for row in rows])
+    return 1 <= len(rows) <= MOST_ROWS and all([is_row(row) for row in rows])
 
 
 def are_heads_first(rows):

@@ -21,6 +21,14 @@ FUNCTIONS = {
         "page_layout(table, layout, first, behind)",
     ),
     "fewest": ("fewest_pages(table, max_width, page_height)",),
+    "drawing": ("draw(table, layout)", "read_drawing(lines)"),
+    "manuscripts": ("read_manuscript(text)", "write_manuscript(tables)"),
+    "layers": ("turn_layer(layer, axis)", "top_face(layer, columns)", "bottom_face(layer, columns)"),
+    "packets": (
+        "sheet_packet(number, rows, columns)", "fold(packet, edge, line, way)", "stack(packet, edge, line, way)",
+        "turn(packet, axis)", "cut(packet, edge, line)", "pile(packets)", "size_of(packet)",
+    ),
+    "plans": ("sheets_of(plan)", "evaluate(plan)", "is_complete(plan)", "leaf_order(plan)"),
 }
 CLASSES = {"errors": ("BookError", "Refused", "BadManuscript")}
 
