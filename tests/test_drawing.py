@@ -217,6 +217,11 @@ class ReadTest(unittest.TestCase):
     def test_words_end_with_their_line(self):
         self.assertEqual(read_drawing(("+--+", "|ab|", "|cd|", "+--+")), [(0, 0, 3, 3, "ab cd")])
 
+    def test_words_may_have_all_characters_of_words(self):
+        for text in ("ABCDEFGHIJKLMNOPQRSTUVWXYZ", "abcdefghijklmnopqrstuvwxyz", "0123456789", ".,:;!?'()/"):
+            line = "-" * len(text)
+            self.assertEqual(read_drawing((f"+{line}+", f"|{text}|", f"+{line}+")), [(0, 0, len(text) + 1, 2, text)])
+
     def test_words_may_have_all_other_characters(self):
         self.assertEqual(read_drawing(("+-----+", "|#_ \t*|", "+-----+")), [(0, 0, 6, 2, "#_ \t*")])
         self.assertEqual(read_drawing(("+---+", "|\t\n\r|", "+---+")), [(0, 0, 4, 2, "\t\n\r")])
@@ -273,6 +278,9 @@ class ReadTest(unittest.TestCase):
 
     def test_boxes_in_and_over_one_another(self):
         self.assertIsNone(read_drawing(("+-----+", "| +-+ |", "| |a| |", "| +-+ |", "+-----+")))
+        self.assertIsNone(read_drawing(
+            ("+-----+", "|     |", "| +-+ |", "| |a| |", "| +-+ |", "|     |", "+-----+")))
+        self.assertIsNone(read_drawing(("+-----+", "|     |", "|   - |", "|     |", "+-----+")))
         self.assertIsNone(read_drawing(("+---+  ", "|   |  ", "| +-+-+", "| | | |", "+-+-+ |", "  |   |", "  +---+")))
         self.assertIsNone(read_drawing(("+-+-+", "| |a|", "| +-+", "|   |", "+---+")))
 

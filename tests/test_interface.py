@@ -29,6 +29,16 @@ FUNCTIONS = {
         "turn(packet, axis)", "cut(packet, edge, line)", "pile(packets)", "size_of(packet)",
     ),
     "plans": ("sheets_of(plan)", "evaluate(plan)", "is_complete(plan)", "leaf_order(plan)"),
+    "imposition": ("faces(plan)", "impose(plan, pages)", "read_prints(plan, prints)"),
+    "creases": ("creases(plan)", "conjugates(plan)", "is_sewable(plan)", "creep(plan)"),
+    "finishing": (
+        "least_moves(rows, columns)", "halving(rows, columns)", "finishing_order(prints, pages)",
+        "cheapest_moves(sheet, pages, fold_cost, stack_cost)",
+    ),
+    "press": (
+        "turn_print(sheet, axis)", "work_and_turn(sheet)", "work_and_tumble(sheet)", "cut_print(sheet, edge, line)",
+        "join_prints(first, second, axis)", "printing_method(sheet)",
+    ),
 }
 CLASSES = {"errors": ("BookError", "Refused", "BadManuscript")}
 
