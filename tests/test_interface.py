@@ -39,8 +39,25 @@ FUNCTIONS = {
         "turn_print(sheet, axis)", "work_and_turn(sheet)", "work_and_tumble(sheet)", "cut_print(sheet, edge, line)",
         "join_prints(first, second, axis)", "printing_method(sheet)",
     ),
+    "makeup": ("makeup_of(kinds, counts, pages)", "cheapest_makeup(kinds, pages)"),
+    "pipeline": ("pages_of(tables, max_width, page_height)",),
+    "paper": (
+        "prices(tables, sizes, kinds)", "cheapest_page(tables, sizes, kinds)", "fair_sizes(tables, sizes, kinds)",
+    ),
+    "reading": ("wanted_marks(job)", "is_good(job, copy)", "read_copy(job, copy)", "texts_of(tables)"),
 }
-CLASSES = {"errors": ("BookError", "Refused", "BadManuscript")}
+CLASSES = {"errors": ("BookError", "Refused", "BadManuscript"), "bindery": ("Bindery",), "pipeline": ("Job",)}
+METHODS = {
+    ("bindery", "Bindery"): (
+        "__init__(self)", "place(self, sheet)", "work(self, step)", "undo(self)", "packet_count(self)",
+        "sizes(self)", "plan(self)", "top_view(self)", "read(self)",
+    ),
+    ("pipeline", "Job"): (
+        "__init__(self, tables, max_width, page_height, kinds)", "pages(self)", "makeup(self)",
+        "signature_count(self)", "numbers(self, signature)", "plan(self, signature)", "sheet(self, signature)",
+        "finish(self, signature)", "copy(self)", "log(self)", "is_log(self, log)",
+    ),
+}
 
 
 class InterfaceTest(unittest.TestCase):
@@ -60,6 +77,14 @@ class InterfaceTest(unittest.TestCase):
                 made = getattr(module, name)
                 self.assertTrue(inspect.isclass(made))
                 self.assertEqual(made.__module__, module.__name__)
+
+    def test_methods_are_defined_in_the_class_itself(self):
+        for (file, class_name), signatures in METHODS.items():
+            made = getattr(importlib.import_module("boundbook." + file), class_name)
+            for signature in signatures:
+                name = signature.partition("(")[0]
+                self.assertIn(name, vars(made))
+                self.assertEqual(name + str(inspect.signature(vars(made)[name])), signature)
 
 
 if __name__ == "__main__":
