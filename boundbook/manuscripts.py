@@ -5,22 +5,23 @@ from boundbook.tables import MOST_COLUMNS, MOST_ROWS, check_table, is_column, is
 from boundbook.words import are_words
 
 MOST_TABLES = 12
+# No number of the bounds of columns, rows and cells has more digits.
+MOST_DIGITS = 3
 DIGITS = "0123456789"
 # The words that the lines of a table begin with, in the order in which these lines come.
 KINDS = ("column", "row", "cell")
 
 
-def is_number(text):
-    """Return whether a text is a number as manuscripts have them."""
-    # No bound has more than three digits.
-    if not 1 <= len(text) <= 3 or not all([character in DIGITS for character in text]):
+def is_number(text, most_digits):
+    """Return whether a text is a number without leading zeros, of so many digits at most."""
+    if not 1 <= len(text) <= most_digits or not all([character in DIGITS for character in text]):
         return False
     return text == str(int(text))
 
 
 def are_numbers(texts):
-    """Return whether all of the texts are numbers."""
-    return all([is_number(text) for text in texts])
+    """Return whether all of the texts are numbers as manuscripts have them."""
+    return all([is_number(text, MOST_DIGITS) for text in texts])
 
 
 def number_or_none(text):
@@ -39,7 +40,7 @@ def read_column(parts):
 
 def read_row(parts):
     """Return the row of which a line tells these parts, or None if there is none."""
-    if len(parts) < 2 or not is_number(parts[0]) or parts[1] not in ("head", "body"):
+    if len(parts) < 2 or not are_numbers(parts[:1]) or parts[1] not in ("head", "body"):
         return None
     if parts[2:] not in ([], ["keep"]):
         return None

@@ -32,12 +32,18 @@ def prices(tables, sizes, kinds):
     return [price([of_table[place] for of_table in numbers], kinds) for place in range(len(sizes))]
 
 
-def cheapest_page(tables, sizes, kinds):
-    """Return the number of the cheapest page size, its cost and its number of pages, or None."""
+def counting_sizes(tables, sizes, kinds):
+    """Return for each page size that counts its number, its cost and its number of pages."""
     found = []
     for number, told in enumerate(prices(tables, sizes, kinds)):
         if told is not None:
-            found.append(told + (number,))
+            found.append((number,) + told)
+    return found
+
+
+def cheapest_page(tables, sizes, kinds):
+    """Return the number of the cheapest page size, its cost and its number of pages, or None."""
+    found = [(cost, pages, number) for number, cost, pages in counting_sizes(tables, sizes, kinds)]
     if not found:
         return None
     cost, pages, number = min(found)
@@ -55,8 +61,8 @@ def is_beaten(size, others):
 
 def fair_sizes(tables, sizes, kinds):
     """Return the list of the fair page sizes, each with its number, its area and its cost."""
-    counted = []
-    for number, told in enumerate(prices(tables, sizes, kinds)):
-        if told is not None:
-            counted.append((number, sizes[number][0] * sizes[number][1], told[0]))
-    return [size for size in counted if not is_beaten(size, counted)]
+    found = []
+    for number, cost, _ in counting_sizes(tables, sizes, kinds):
+        width, height = sizes[number]
+        found.append((number, width * height, cost))
+    return [size for size in found if not is_beaten(size, found)]

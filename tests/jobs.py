@@ -19,6 +19,9 @@ SPANS = (
 TABLES = (INKS, THREADS, HEADS)
 # On pages of 13 to 6: three pages of INKS with its head, one of THREADS and one of HEADS.
 KINDS = ((1, 2, 3), (2, 2, 5))
+# A table that has no pages below a width of 22, and one that is faulty.
+TOO_WIDE = table_of([column(20)], [row()], [["a"]])
+FAULTY = (INKS[0], INKS[1], INKS[2][1:])
 
 TEXT = """table
 column 3 - - left
@@ -38,6 +41,24 @@ table
 column 1 - - center
 row 1 body
 cell 0 0 1 1 The end."""
+
+
+def each_fault(table):
+    """Tables with each of the faults of point 7, made of a table of two rows, and what is wrong with them."""
+    columns, rows, cells = table
+    return (
+        (((), rows, cells), "columns are wrong"),
+        ((columns, (), cells), "rows are wrong"),
+        ((columns, ((1, False, False), (1, True, False)), cells), "head rows come first"),
+        ((columns, rows, cells[::-1]), "cells are not in order"),
+        ((columns, rows, cells + ((2, 0, 1, 1, ()),)), "cell lies outside"),
+        ((columns, rows, cells[:1]), "place is not covered once"),
+        ((columns, rows, cells[:1] + ((1, 0, 1, 1, ("a-b",)),)), "words are wrong"),
+        ((columns, ((1, True, False), (1, False, False)), ((0, 0, 2, 1, ()),)), "cell crosses the head"),
+    )
+
+
+FAULTS = each_fault(THREADS)
 
 
 def one_page_tables(count):

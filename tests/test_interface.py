@@ -45,6 +45,13 @@ FUNCTIONS = {
         "prices(tables, sizes, kinds)", "cheapest_page(tables, sizes, kinds)", "fair_sizes(tables, sizes, kinds)",
     ),
     "reading": ("wanted_marks(job)", "is_good(job, copy)", "read_copy(job, copy)", "texts_of(tables)"),
+    "misprints": ("wrong_marks(job, copy)", "accounts_of(job, copy)"),
+    "reprints": ("changed_pages(old, new)", "reprints(old, new)", "reprint_cost(old, new)"),
+    "wordlist": ("word_list(job)", "leaves_with(job, word)", "write_word_list(job)"),
+    "contents": (
+        "contents(job)", "write_contents(job)", "table_on(job, page)", "signatures_of(job, table)",
+    ),
+    "proofs": ("write_print(sheet)", "read_print(text)"),
 }
 CLASSES = {"errors": ("BookError", "Refused", "BadManuscript"), "bindery": ("Bindery",), "pipeline": ("Job",)}
 METHODS = {

@@ -103,6 +103,24 @@ class LanguageTest(unittest.TestCase):
                 self.assertRegex(name, r"^(__[a-z]+__|_?[A-Za-z][A-Za-z0-9_]*|_)$", path)
                 self.assertFalse(hasattr(builtins, name) and not name.startswith("__"), (path, name))
 
+    def test_names_of_imports_and_classes_keep_their_meaning(self):
+        for path, tree in trees():
+            top = [alias.name for node in tree.body if isinstance(node, ast.ImportFrom) for alias in node.names]
+            top += [node.name for node in tree.body if isinstance(node, ast.ClassDef)]
+            functions = [node for node in ast.walk(tree) if isinstance(node, ast.FunctionDef)]
+            for function in functions:
+                inner = {name for part in function.body for name in bound_names(part)}
+                inner.update(argument.arg for argument in function.args.args)
+                self.assertEqual(inner & set(top), set(), (path, function.name))
+
+    def test_no_name_is_a_method_and_an_attribute(self):
+        for path, tree in trees():
+            for made in [node for node in tree.body if isinstance(node, ast.ClassDef)]:
+                methods = {node.name for node in made.body if isinstance(node, ast.FunctionDef)}
+                attributes = {node.attr for node in ast.walk(made)
+                              if isinstance(node, ast.Attribute) and isinstance(node.ctx, ast.Store)}
+                self.assertEqual(methods & attributes, set(), (path, made.name))
+
     def test_names_that_are_not_used(self):
         for path, tree in trees():
             names = set(bound_names(tree))

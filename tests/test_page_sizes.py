@@ -6,11 +6,9 @@ import unittest
 from boundbook.errors import BookError, Refused
 from boundbook.paper import cheapest_page, fair_sizes, prices
 from boundbook.pipeline import Job
-from jobs import INKS, KINDS, TABLES, THREADS, one_page_tables, random_kinds
+from jobs import FAULTS, FAULTY, KINDS, TABLES, THREADS, TOO_WIDE, one_page_tables, random_kinds
 from support import column, random_table, row, table_of
 
-TOO_WIDE = table_of([column(20)], [row()], [["a"]])
-FAULTY = (INKS[0], INKS[1], INKS[2][1:])
 # Two body rows that may stand on two pages, of a width of 7.
 ROWS = table_of([column(5)], [row(), row()], [["a"], ["b"]])
 
@@ -140,17 +138,7 @@ class FairTest(PaperCase):
 
 class ErrorsTest(PaperCase):
     def test_each_fault_of_tables(self):
-        columns, rows, cells = THREADS
-        for table, what in (
-            (((), rows, cells), "columns are wrong"),
-            ((columns, (), cells), "rows are wrong"),
-            ((columns, ((1, False, False), (1, True, False)), cells), "head rows come first"),
-            ((columns, rows, cells[::-1]), "cells are not in order"),
-            ((columns, rows, cells + ((2, 0, 1, 1, ()),)), "cell lies outside"),
-            ((columns, rows, cells[:1]), "place is not covered once"),
-            ((columns, rows, cells[:1] + ((1, 0, 1, 1, ("a-b",)),)), "words are wrong"),
-            ((columns, ((1, True, False), (1, False, False)), ((0, 0, 2, 1, ()),)), "cell crosses the head"),
-        ):
+        for table, what in FAULTS:
             self.raises(what, (THREADS, table), [(9, 9)], KINDS)
 
     def test_all_tables_are_looked_at_first(self):

@@ -11,12 +11,9 @@ from boundbook.imposition import impose, read_prints
 from boundbook.makeup import cheapest_makeup
 from boundbook.pages import page_layout, page_table
 from boundbook.pipeline import Job, pages_of
-from jobs import INKS, KINDS, TABLES, THREADS, inks_job, page_job, printed_marks, random_job, random_tables, text_job
+from jobs import (FAULTS, FAULTY, INKS, KINDS, TABLES, THREADS, TOO_WIDE, inks_job, page_job, printed_marks,
+                  random_job, random_tables, text_job)
 from paper import carried_out
-from support import column, row, table_of
-
-TOO_WIDE = table_of([column(20)], [row()], [["a"]])
-FAULTY = (INKS[0], INKS[1], INKS[2][1:])
 
 
 def sizes_of_signatures(job):
@@ -74,17 +71,7 @@ class PagesTest(JobCase):
         self.raises("table has no pages", pages_of, (INKS,), 13, 4)
 
     def test_each_fault_of_tables(self):
-        columns, rows, cells = THREADS
-        for table, what in (
-            (((), rows, cells), "columns are wrong"),
-            ((columns, (), cells), "rows are wrong"),
-            ((columns, ((1, False, False), (1, True, False)), cells), "head rows come first"),
-            ((columns, rows, cells[::-1]), "cells are not in order"),
-            ((columns, rows, cells + ((2, 0, 1, 1, ()),)), "cell lies outside"),
-            ((columns, rows, cells[:1]), "place is not covered once"),
-            ((columns, rows, cells[:1] + ((1, 0, 1, 1, ("a-b",)),)), "words are wrong"),
-            ((columns, ((1, True, False), (1, False, False)), ((0, 0, 2, 1, ()),)), "cell crosses the head"),
-        ):
+        for table, what in FAULTS:
             for tables in ((table,), (THREADS, table), (table, TOO_WIDE), (table, INKS)):
                 self.raises(what, pages_of, tables, 21, 10)
                 self.raises(what, Job, tables, 21, 10, KINDS)
