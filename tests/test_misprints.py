@@ -197,9 +197,10 @@ class AccountsTest(MisprintsCase):
         self.assertEqual(accounts_of(job, copy), [(0, (), ""), (1, (), ""), (2, (), "")])
         self.assertEqual(accounts_of(job, copy[2:4] + copy[:2] + copy[4:]), [None, None, (2, (), "")])
         self.assertEqual(accounts_of(job, copy[4:] + copy[2:4] + copy[:2]), [(2, (), ""), (1, (), ""), (0, (), "")])
-        wider = [("sheet", 1, 4), ("fold", "left", 2, "over"), ("fold", "left", 1, "over")]
-        job = JobWithNumbers({}, 16, ((2, 2, 1),), {1: wider})
-        self.assertEqual(accounts_of(job, job.copy()[4:] + job.copy()[:4]), [None, None])
+        for edge, size in (("left", (1, 4)), ("top", (4, 1))):
+            longer = [("sheet", *size), ("fold", edge, 2, "over"), ("fold", edge, 1, "over")]
+            job = JobWithNumbers({}, 16, ((2, 2, 1),), {1: longer})
+            self.assertEqual(accounts_of(job, job.copy()[4:] + job.copy()[:4]), [None, None])
 
     def test_a_signature_that_no_account_explains(self):
         job = page_job(24, ((2, 2, 1),))
